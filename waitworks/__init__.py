@@ -1,0 +1,1 @@
+"""Simulator of queueing networks."""
