@@ -15,9 +15,31 @@ NUMBERS = {
     "restore": 9,
     "clock": 10,
     "station_counts": 11,
+    "station_areas": 12,
+    "little": 13,
+    "class_counts": 14,
+    "serving": 15,
+    "queue": 16,
+    "job_info": 17,
+    "next_events": 18,
+    "compare": 19,
+    "draw": 20,
+    "digest": 21,
+    "summary": 22,
 }
 
 LARGEST = 4294967295
+
+# Two classes that wait, are lost and move on between two stations, all by draws.
+BUSY = (
+    ("create", 99, 2, 2),
+    ("set_station", 0, 2, 5, 3), ("set_station", 1, 1, 0, 2),
+    ("set_service", 0, 0, 2, 30), ("set_service", 0, 1, 5, 9),
+    ("set_service", 1, 0, 3, 8), ("set_service", 1, 1, 1, 40),
+    ("set_source", 0, 0, 1, 20), ("set_source", 1, 1, 2, 30),
+    ("set_route", 0, 0, [1, 2, 1]), ("set_route", 1, 0, [1, 0, 2]), ("set_route", 1, 1, [3, 1, 4]),
+    ("begin",),
+)
 
 
 def write_calls(calls):
@@ -60,3 +82,18 @@ def ask(*calls):
 
 def ask_last(*calls):
     return ask(*calls)[-1]
+
+
+STATION_LOOKS = ("station_counts", "station_areas", "little", "serving", "queue")
+
+
+def all_looks(station_count, class_count, customers=(0, 1, 2, 5, 20)):
+    """Calls that look at all that a run shows; `customers` are those who are asked for one by one."""
+    return [
+        ("clock",),
+        *[(name, station) for station in range(station_count) for name in STATION_LOOKS],
+        *[("class_counts", number) for number in range(class_count)],
+        *[("job_info", customer) for customer in customers],
+        ("next_events", LARGEST),
+        ("digest",),
+    ]

@@ -40,6 +40,8 @@ class Reference:
         self.people = []
         self.arrivals = {r: 0 for r in self.source}
         self.events = []
+        # Every time that a customer spent at a station, from the coming on; nothing is summed up ahead.
+        self.stays = []
         self.tallies = [
             {"accepted": 0, "served": 0, "lost": 0, "greatest": 0} for _ in range(self.station_count)
         ]
@@ -66,11 +68,14 @@ class Reference:
         if settings["capacity"] and len(self.at(station)) == settings["capacity"]:
             tally["lost"] += 1
             person["at"] = None
+            person["end"] = "lost"
             return
         low, high = self.service[station, person["class"]]
         person["at"] = station
         person["state"] = "waiting"
         person["came"] = tally["accepted"]
+        person["entered"] = self.time
+        self.stays.append({"who": person["number"], "at": station, "from": self.time, "began": None, "until": None})
         person["service"] = draw(low, high, hashed(self.seed, 2, person["number"], person["before"]))
         tally["accepted"] += 1
         tally["greatest"] = max(tally["greatest"], len(self.at(station)))
@@ -79,7 +84,12 @@ class Reference:
 
     def serve(self, person):
         person["state"] = "served"
+        person["turn"] = self.orders
+        self.stay(person)["began"] = self.time
         self.plan(self.time + person["service"], "end", person["number"])
+
+    def stay(self, person):
+        return [stay for stay in self.stays if stay["who"] == person["number"]][-1]
 
     def choose(self, station):
         waiting = self.at(station, "waiting")
@@ -105,19 +115,25 @@ class Reference:
         if kind == "arrival":
             self.arrivals[who] += 1
             self.plan(self.time + self.gap(who, self.arrivals[who]), "arrival", who)
-            person = {"number": len(self.people), "class": who, "before": 0, "at": None, "state": None}
+            person = {
+                "number": len(self.people), "class": who, "before": 0, "at": None, "state": None,
+                "arrival": self.time, "end": None,
+            }
             self.people.append(person)
             self.come(person, self.source[who][0])
             return
         person = self.people[who]
         station, target = person["at"], self.target(person)
         person["at"] = None
+        self.stay(person)["until"] = self.time
         self.tallies[station]["served"] += 1
         if self.at(station, "waiting"):
             self.serve(self.choose(station))
         if target < self.station_count:
             person["before"] += 1
             self.come(person, target)
+        else:
+            person["end"] = self.time
 
     def step(self, count):
         before = self.executed
@@ -141,6 +157,80 @@ class Reference:
             tally["accepted"], tally["served"], tally["lost"],
             len(self.at(station, "served")), len(self.at(station, "waiting")), tally["greatest"],
         )
+
+    def station_areas(self, station):
+        stays = [stay for stay in self.stays if stay["at"] == station]
+        ends = [self.time if stay["until"] is None else stay["until"] for stay in stays]
+        area = sum(end - stay["from"] for stay, end in zip(stays, ends))
+        busy = sum(end - stay["began"] for stay, end in zip(stays, ends) if stay["began"] is not None)
+        return area, busy, self.time
+
+    def little(self, station):
+        stays = [stay for stay in self.stays if stay["at"] == station]
+        sojourns = sum(stay["until"] - stay["from"] for stay in stays if stay["until"] is not None)
+        present = sum(self.time - person["entered"] for person in self.at(station))
+        return self.station_areas(station)[0], sojourns, present
+
+    def class_counts(self, number):
+        people = [person for person in self.people if person["class"] == number]
+        lost = [person for person in people if person["end"] == "lost"]
+        times = [p["end"] - p["arrival"] for p in people if p["end"] is not None and p not in lost]
+        return len(people), len(times), len(lost), sum(times), max(times, default=0)
+
+    def served_people(self, station):
+        return sorted(self.at(station, "served"), key=lambda person: person["turn"])
+
+    def serving(self, station):
+        people = self.served_people(station)
+        return (len(people), *[person["number"] for person in people])
+
+    def queue(self, station):
+        people = self.at(station, "waiting")
+        return (len(people), *[person["number"] for person in people])
+
+    def job_info(self, customer):
+        if customer >= len(self.people) or self.people[customer]["at"] is None:
+            return -2
+        person = self.people[customer]
+        return (
+            person["class"], person["at"], person["arrival"], person["entered"], person["before"], person["service"],
+            int(person["state"] == "served"),
+        )
+
+    def told_events(self):
+        """Each planned event in order: time, order number, 1 for an arrival, class or station, customer."""
+        for time, order, kind, who in sorted(self.events):
+            if kind == "arrival":
+                yield time, order, 1, who, 0
+            else:
+                yield time, order, 0, self.people[who]["at"], who
+
+    def next_events(self, count):
+        events = list(self.told_events())[:count]
+        told = [number for time, _, *others in events for number in (time, *others)]
+        return (len(events), *told)
+
+    def digest(self):
+        told = [self.time, self.orders, len(self.people), self.executed]
+        for station in range(self.station_count):
+            accepted, served, lost, serving, waiting, greatest = self.station_counts(station)
+            area, busy, _ = self.station_areas(station)
+            told += [accepted, served, lost, area, busy, self.little(station)[1], greatest, serving, waiting]
+            for p in self.served_people(station) + self.at(station, "waiting"):
+                told += [p["number"], p["class"], p["arrival"], p["entered"], p["before"], p["service"]]
+        for number in sorted(self.source):
+            told += self.class_counts(number)
+        for event in self.told_events():
+            told += event
+        return hashed(0, *told)
+
+    def equals(self, other):
+        return int(vars(self) == vars(other))
+
+    def answer(self, name, *arguments):
+        """What a call that only looks answers, as tests.calling reads it: a lone number stands for itself."""
+        answer = getattr(self, name)(*arguments)
+        return answer[0] if isinstance(answer, tuple) and len(answer) == 1 else answer
 
     def twin(self):
         return copy.deepcopy(self)

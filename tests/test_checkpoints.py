@@ -2,18 +2,8 @@
 
 import unittest
 
-from tests.calling import LARGEST, ask, ask_last
+from tests.calling import BUSY, LARGEST, all_looks, ask, ask_last
 
-# Two classes that wait, are lost and move on between two stations, all by draws.
-BUSY = (
-    ("create", 99, 2, 2),
-    ("set_station", 0, 2, 5, 3), ("set_station", 1, 1, 0, 2),
-    ("set_service", 0, 0, 2, 30), ("set_service", 0, 1, 5, 9),
-    ("set_service", 1, 0, 3, 8), ("set_service", 1, 1, 1, 40),
-    ("set_source", 0, 0, 1, 20), ("set_source", 1, 1, 2, 30),
-    ("set_route", 0, 0, [1, 2, 1]), ("set_route", 1, 0, [1, 0, 2]), ("set_route", 1, 1, [3, 1, 4]),
-    ("begin",),
-)
 LOOK = (("clock",), ("station_counts", 0), ("station_counts", 1))
 GO_ON = tuple(call for count in (1, 2, 40, 1, 100) for call in (("step", count), *LOOK))
 
@@ -122,6 +112,42 @@ class Restore(unittest.TestCase):
     def test_a_new_run_can_be_left_for_a_saved_one(self):
         answered = ask(*BUSY, ("step", 33), ("checkpoint", 0), *LOOK, ("begin",), ("step", 3), ("restore", 0), *LOOK)
         self.assertEqual(answered[-3:], answered[-9:-6])
+
+
+class AllThatIsSaved(unittest.TestCase):
+    """Areas, sojourns, classes, customers and planned events too."""
+
+    LOOK = all_looks(2, 2, range(0, 60, 3))
+    GO_ON = [call for count in (1, 2, 40, 1, 100) for call in (("step", count), *LOOK)]
+
+    def test_a_restored_run_shows_what_the_saved_one_did(self):
+        for count in (1, 7, 50, 200):
+            answered = ask(
+                *BUSY, ("step", count), ("checkpoint", 0), *self.LOOK, ("step", 30), ("restore", 0), *self.LOOK,
+            )
+            size = len(self.LOOK)
+            self.assertEqual(answered[-size:], answered[-2 * size - 2:-size - 2])
+
+    def test_a_restored_run_goes_on_as_the_saved_one_did(self):
+        for count in (1, 7, 50, 200):
+            answered = ask(*BUSY, ("step", count), ("checkpoint", 0), *self.GO_ON, ("restore", 0), *self.GO_ON)
+            size = len(self.GO_ON)
+            self.assertEqual(answered[-size:], answered[-2 * size - 1:-size - 1])
+
+    def test_it_goes_on_so_with_run_until_too(self):
+        later = [call for time in (60, 61, 300, 777) for call in (("run_until", time), *self.LOOK)]
+        answered = ask(*BUSY, ("run_until", 50), ("checkpoint", 0), *later, ("restore", 0), *later)
+        self.assertEqual(answered[-len(later):], answered[-2 * len(later) - 1:-len(later) - 1])
+
+    def test_neither_run_changes_the_checkpoint(self):
+        looks = [("restore", 1), *self.LOOK]
+        answered = ask(
+            *BUSY, ("step", 60), ("checkpoint", 1), *looks, ("step", 100), *looks, ("run_until", 900), *looks,
+        )
+        size = len(looks)
+        first, second, third = [answered[-end:][:size] for end in (3 * size + 2, 2 * size + 1, size)]
+        self.assertEqual(first, second)
+        self.assertEqual(second, third)
 
 
 if __name__ == "__main__":

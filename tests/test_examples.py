@@ -1,4 +1,4 @@
-"""The examples of the document, as far as they use the calls that are there."""
+"""The examples of the document, whole, and that of the README."""
 
 import unittest
 
@@ -28,15 +28,27 @@ class Examples(unittest.TestCase):
             (("run_until", 7), 2),
             (("clock",), (7, 5, 2)),
             (("station_counts", 0), (3, 1, 0, 1, 1, 2)),
+            (("station_areas", 0), (7, 5, 7)),
+            (("little", 0), (7, 3, 4)),
+            (("class_counts", 0), (3, 1, 0, 5, 5)),
+            (("serving", 0), (1, 1)),
+            (("queue", 0), (1, 2)),
+            (("job_info", 1), (0, 0, 4, 4, 0, 3, 1)),
+            (("job_info", 0), -2),
+            (("next_events", 5), (2, 8, 0, 0, 1, 8, 1, 0, 0)),
             (("checkpoint", 0), 0),
             (("step", 1), (8, 1)),
+            (("compare", 0), 0),
             (("restore", 0), 7),
+            (("compare", 0), 1),
+            (("draw", 3, 3, [5]), 3),
             (("run_until", 6), -22),
             (("step", 0), -22),
             (("restore", 1), -33),
             (("set_station", 0, 2, 2, 0), 0),
             (("clock",), -6),
             (("restore", 0), -33),
+            (("summary",), (2, 1, 0, 0)),
         ])
 
     def test_one_station_without_room_to_wait(self):
@@ -48,6 +60,7 @@ class Examples(unittest.TestCase):
             (("begin",), 1),
             (("run_until", 6), 3),
             (("station_counts", 0), (1, 0, 2, 1, 0, 1)),
+            (("class_counts", 0), (3, 0, 2, 0, 0)),
             (("run_until", 1000000), -28),
             (("set_source", 0, 0, 0, 0), 0),
             (("begin",), 0),
@@ -59,8 +72,9 @@ class Examples(unittest.TestCase):
         ])
 
     def test_the_example_of_the_readme(self):
-        calls = [0, 7, 1, 1, 2, 0, 0, 3, 3, 3, 0, 0, 2, 2, 4, 0, 0, 2, 0, 1, 5, 7, 7, 11, 0]
-        self.assertEqual(answers(calls), [1, 0, 1, 0, 1, 0, 1, 1, 1, 1, 1, 4, 6, 3, 1, 0, 1, 1, 2])
+        calls = [0, 7, 1, 1, 2, 0, 0, 3, 3, 3, 0, 0, 2, 2, 4, 0, 0, 2, 0, 1, 5, 7, 7, 11, 0, 13, 0]
+        expected = [1, 0, 1, 0, 1, 0, 1, 1, 1, 1, 1, 4, 6, 3, 1, 0, 1, 1, 2, 3, 7, 3, 4]
+        self.assertEqual(answers(calls), expected)
 
 
 if __name__ == "__main__":

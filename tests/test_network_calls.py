@@ -3,7 +3,7 @@
 import unittest
 
 from tests import reference
-from tests.calling import LARGEST, ask, ask_last
+from tests.calling import LARGEST, NUMBERS, ask, ask_last
 from waitworks.simulator import answers
 
 # One class comes at 10, 20, 30 and so on, and its service takes 4.
@@ -27,7 +27,21 @@ class BeforeCreate(unittest.TestCase):
         ("restore", 0),
         ("clock",),
         ("station_counts", 0),
+        ("station_areas", 0),
+        ("little", 0),
+        ("class_counts", 0),
+        ("serving", 0),
+        ("queue", 0),
+        ("job_info", 0),
+        ("next_events", 0),
+        ("compare", 0),
+        ("draw", 1, 2, [3]),
+        ("digest",),
+        ("summary",),
     ]
+
+    def test_no_call_is_left_out(self):
+        self.assertEqual([NUMBERS[call[0]] for call in self.CALLS], list(range(1, 23)))
 
     def test_every_other_call_says_that_there_is_no_instance(self):
         self.assertEqual(ask(*self.CALLS), [-11] * len(self.CALLS))
@@ -36,6 +50,7 @@ class BeforeCreate(unittest.TestCase):
         for name, *arguments in self.CALLS:
             wrong = [[LARGEST] if isinstance(argument, list) else LARGEST for argument in arguments]
             self.assertEqual(ask((name, *wrong)), [-11], name)
+        self.assertEqual(ask(("draw", 2, 1, [])), [-11])
 
     def test_a_create_that_fails_makes_no_instance(self):
         for call in self.CALLS:
@@ -179,6 +194,10 @@ class Changes(unittest.TestCase):
         ("set_route", 2, 0, [0, 0, 0]),
         ("set_route", 0, 0, [1, 1, 1001]),
     ]
+    LOOKS = [
+        ("station_counts", 0), ("station_areas", 0), ("little", 0), ("class_counts", 0), ("serving", 0), ("queue", 0),
+        ("job_info", 0), ("next_events", 1), ("digest",), ("compare", 0),
+    ]
     AFTER = [("clock",), ("restore", 0), ("restore", 1), ("restore", 2), ("step", 1), ("run_until", 50)]
 
     def with_a_run(self, call):
@@ -188,6 +207,11 @@ class Changes(unittest.TestCase):
     def test_every_change_ends_the_run_and_clears_the_checkpoints(self):
         for change in self.CHANGES:
             self.assertEqual(self.with_a_run(change), [0, -6, -33, -33, -33, -6, -6], change)
+
+    def test_without_the_run_there_is_nothing_to_look_at(self):
+        for change in self.CHANGES:
+            answered = ask(*STEADY, ("begin",), ("step", 3), ("checkpoint", 0), change, *self.LOOKS)
+            self.assertEqual(answered[-len(self.LOOKS):], [-6] * len(self.LOOKS), change)
 
     def test_a_change_that_is_refused_does_neither(self):
         for change in self.REFUSED:

@@ -3,7 +3,7 @@
 import random
 import unittest
 
-from tests.calling import LARGEST, ask
+from tests.calling import LARGEST, STATION_LOOKS, all_looks, ask
 from tests.reference import Reference
 
 NETWORKS = 150
@@ -39,18 +39,18 @@ def random_network(chance):
 
 
 def look_calls(model):
-    return [("clock",), *[("station_counts", station) for station in range(model.station_count)]]
+    return all_looks(model.station_count, len(model.source))
 
 
 def look_answers(model):
-    return [model.clock(), *[model.station_counts(station) for station in range(model.station_count)]]
+    return [model.answer(*call) for call in look_calls(model)]
 
 
 def random_moves(chance, model, count):
     """Calls that move the run of the model about, each with a look at it, and the answers of the model."""
     calls, expected, saved = [("begin",)], [model.begin()], {}
     for _ in range(count):
-        move = chance.choice(["step", "step", "run_until", "run_until", "checkpoint", "restore"])
+        move = chance.choice(["step", "step", "run_until", "run_until", "checkpoint", "checkpoint", "restore"])
         slot, number = chance.randrange(3), chance.choice([1, 1, 2, 3, 30, 90])
         if move == "step":
             calls.append(("step", number))
@@ -73,6 +73,11 @@ def random_moves(chance, model, count):
             model = saved[slot].twin() if slot in saved else model
         calls += look_calls(model)
         expected += look_answers(model)
+        for slot in range(3):
+            calls.append(("compare", slot))
+            expected.append(model.equals(saved[slot]) if slot in saved else -33)
+        calls.append(("summary",))
+        expected.append((model.station_count, len(model.source), 1, len(saved)))
     return calls, expected
 
 
@@ -146,6 +151,74 @@ class Requirements(unittest.TestCase):
                     most[station] = max(most[station], serving + waiting)
                     self.assertEqual(greatest, most[station])
 
+    def test_each_lost_customer_is_lost_for_a_station_and_for_a_class(self):
+        for _, network, model in some_networks():
+            stations = [("station_counts", station) for station in range(model.station_count)]
+            classes = [("class_counts", number) for number in model.source]
+            answered = ask(*network, ("begin",), ("step", 250), *stations, *classes)[len(network) + 2:]
+            lost_there = sum(counts[2] for counts in answered[:len(stations)])
+            self.assertEqual(sum(counts[2] for counts in answered[len(stations):]), lost_there)
+
+    def test_flow_of_classes(self):
+        for _, network, model in list(some_networks())[:60]:
+            for count in (5, 60, 250):
+                calls = [*network, ("begin",), ("step", count)]
+                looks = [(name, station) for station in range(model.station_count) for name in ("serving", "queue")]
+                found = [answer for answer in ask(*calls, *looks)[len(calls):] if answer != 0]
+                customers = [customer for answer in found for customer in answer[1:]]
+                self.assertEqual([len(answer) - 1 for answer in found], [answer[0] for answer in found])
+                self.assertEqual(len(customers), len(set(customers)))
+                infos = ask(*calls, *[("job_info", customer) for customer in customers])[len(calls):]
+                counts = ask(*calls, *[("class_counts", number) for number in model.source])[len(calls):]
+                for number, (arrived, left, lost, _, _) in enumerate(counts):
+                    self.assertEqual(arrived, left + lost + sum(info[0] == number for info in infos))
+
+    def test_littles_law(self):
+        positive = 0
+        for chance, network, model in some_networks():
+            looks = [("little", station) for station in range(model.station_count)]
+            moves = [("step", 1)] * 60 + [("run_until", time) for time in range(200, 240, 3)]
+            chance.shuffle(moves)
+            answered = ask(*network, ("begin",), *[call for move in moves for call in (move, *looks)])
+            for answer in answered[len(network) + 1:]:
+                if isinstance(answer, tuple) and len(answer) == 3:
+                    area, sojourns, present = answer
+                    self.assertEqual(area, sojourns + present)
+                    positive += sojourns > 0 and present > 0
+        self.assertGreater(positive, 1000)
+
+    def test_no_planned_event_lies_before_the_present_time(self):
+        for chance, network, model in some_networks():
+            moves = [chance.choice([("step", 1), ("step", 7), ("run_until", 40)]) for _ in range(20)]
+            looks = [("clock",), ("next_events", LARGEST)]
+            answered = ask(*network, ("begin",), *[call for move in moves for call in (move, *looks)])
+            answered = answered[len(network) + 1:]
+            for clock, events in zip(answered[1::3], answered[2::3]):
+                times = [] if events == 0 else list(events[1::4])
+                self.assertEqual(times, sorted(times))
+                self.assertEqual(len(times), clock[2])
+                self.assertTrue(all(time >= clock[0] for time in times))
+
+    def test_looking_changes_nothing(self):
+        for chance, network, model in list(some_networks())[:60]:
+            moves = [("step", 9), ("checkpoint", 0), ("run_until", 60), ("checkpoint", 2), ("step", 3), ("restore", 0),
+                     ("run_until", 30), ("step", 40), ("restore", 2), ("step", 1), ("begin",), ("step", 2)]
+            looks = [
+                *look_calls(model), *[("compare", slot) for slot in range(4)], ("draw", 0, 9, [1, 2]), ("summary",),
+                ("draw", 2, 1, []),
+            ]
+            plain = ask(*network, ("begin",), *[call for move in moves for call in (move, ("digest",))])
+            looked = ask(*network, ("begin",), *[
+                call for move in moves for call in (move, ("digest",), *looks, *looks)
+            ])
+            size = 2 + 2 * len(looks)
+            start = len(network) + 1
+            again = [answer for place in range(start, len(looked), size) for answer in looked[place:place + 2]]
+            self.assertEqual(again, plain[start:])
+            for place in range(start + 2, len(looked), size):
+                once, twice = looked[place:place + len(looks)], looked[place + len(looks):place + 2 * len(looks)]
+                self.assertEqual(once, twice)
+
     def test_order(self):
         for _, seen in self.each_look():
             times = [answer[0][0] for answer in seen]
@@ -190,12 +263,16 @@ class Errors(unittest.TestCase):
         (("set_route", 0, 0, [5, 5, 5, 5, 5, 5]), -22), (("set_route", 0, 0, [1001, 1001, 1001]), -22),
         (("step", 0), -22), (("step", 501), -22),
         (("run_until", 0), -22), (("run_until", 1000001), -22), (("run_until", LARGEST), -22),
-        (("checkpoint", 3), -2), (("restore", 3), -2), (("restore", 2), -33), (("station_counts", 4), -2),
+        (("checkpoint", 3), -2), (("restore", 3), -2), (("restore", 2), -33),
+        *[((name, 4), -2) for name in STATION_LOOKS], (("class_counts", 3), -2), (("job_info", LARGEST), -2),
+        (("compare", 3), -2), (("compare", 2), -33), (("draw", 2, 1, []), -22), (("draw", LARGEST, 0, [1]), -22),
     ]
     WITHOUT_A_RUN = [
         (("step", 1), -6), (("step", 0), -6), (("run_until", 0), -6), (("run_until", LARGEST), -6),
         (("checkpoint", 0), -6), (("checkpoint", 3), -2), (("restore", 0), -33), (("restore", 3), -2),
-        (("clock",), -6), (("station_counts", 0), -6), (("station_counts", 4), -6),
+        (("clock",), -6), (("next_events", 0), -6), (("digest",), -6),
+        *[((name, place), -6) for name in (*STATION_LOOKS, "class_counts", "job_info") for place in (0, 4, LARGEST)],
+        (("compare", 0), -6), (("compare", 3), -2), (("draw", 2, 1, []), -22),
     ]
 
     def check(self, before, errors, after):
@@ -210,7 +287,8 @@ class Errors(unittest.TestCase):
         for _, network, model in list(some_networks())[:40]:
             looks = look_calls(model)
             after = [
-                *looks, ("step", 70), *looks, ("restore", 0), *looks, ("restore", 1), *looks, ("begin",), ("step", 9),
+                ("summary",), *looks, ("step", 70), *looks, ("restore", 0), *looks, ("restore", 1), *looks,
+                ("begin",), ("step", 9),
             ]
             # Without arrivals the time stays at 0, and run_until at 0 is no error.
             if all(high == 0 for _, _, high in model.source.values()):
@@ -223,7 +301,8 @@ class Errors(unittest.TestCase):
     def test_an_error_leaves_an_instance_without_a_run(self):
         for _, network, model in list(some_networks())[:40]:
             looks = look_calls(model)
-            self.check(network, self.WITHOUT_A_RUN, [("restore", 0), ("clock",), ("begin",), ("step", 90), *looks])
+            after = [("summary",), ("restore", 0), ("clock",), ("begin",), ("step", 90), *looks]
+            self.check(network, self.WITHOUT_A_RUN, after)
 
     def test_too_many_events_leave_the_run(self):
         crowded = [
@@ -231,7 +310,7 @@ class Errors(unittest.TestCase):
             ("set_source", 0, 0, 1, 2), ("set_source", 1, 0, 1, 1), ("set_route", 0, 0, [1, 1, 1]),
             ("begin",), ("step", 77), ("checkpoint", 1), ("step", 10),
         ]
-        looks = [("clock",), ("station_counts", 0), ("station_counts", 1)]
+        looks = all_looks(2, 2)
         after = [*looks, ("step", 60), *looks, ("run_until", 100), *looks, ("restore", 1), *looks, ("restore", 0)]
         errors = [(("run_until", 10000), -28), (("run_until", 1000000), -28)]
         self.check(crowded, errors, after)

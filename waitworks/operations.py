@@ -1,14 +1,11 @@
-"""The operations on an instance: each takes its arguments and gives back what it answers."""
+"""The operations that change an instance: each takes its arguments and gives back what it answers."""
 
+from waitworks.instance import EMPTY_CHECKPOINT, NO_INSTANCE, NO_RUN, NOT_THERE, OUT_OF_RANGE, TOO_MANY_EVENTS
+from waitworks.instance import forget_runs, has_checkpoint, has_class, has_station
+from waitworks.looks import FIRST_LOOK, look
 from waitworks.network import Network, Source
-from waitworks.run import begin_run, copy_run, execute_next_event, has_event_until
-
-NOT_THERE = -2
-NO_RUN = -6
-NO_INSTANCE = -11
-OUT_OF_RANGE = -22
-TOO_MANY_EVENTS = -28
-EMPTY_CHECKPOINT = -33
+from waitworks.run import begin_run, execute_next_event, has_event_until, move_time
+from waitworks.state import copy_run
 
 MOST_STATIONS = 4
 MOST_CLASSES = 3
@@ -19,27 +16,6 @@ LONGEST_TIME = 10000
 MOST_WEIGHT = 1000
 MOST_EVENTS = 500
 LATEST_TIME = 1000000
-CHECKPOINT_COUNT = 3
-
-
-class Instance:
-    def __init__(self):
-        self.network = None
-        self.run = None
-        self.checkpoints = [None] * CHECKPOINT_COUNT
-
-
-def forget_runs(instance):
-    instance.run = None
-    instance.checkpoints = [None] * CHECKPOINT_COUNT
-
-
-def has_station(instance, station):
-    return station < len(instance.network.stations)
-
-
-def has_class(instance, class_number):
-    return class_number < len(instance.network.sources)
 
 
 def is_range_of_times(low, high):
@@ -139,14 +115,14 @@ def run_until(instance, arguments):
             return [TOO_MANY_EVENTS]
         execute_next_event(tried)
         executed += 1
-    tried.time = time
+    move_time(tried, time)
     instance.run = tried
     return [executed]
 
 
 def checkpoint(instance, arguments):
     slot = arguments[0]
-    if slot >= CHECKPOINT_COUNT:
+    if not has_checkpoint(slot):
         return [NOT_THERE]
     if instance.run is None:
         return [NO_RUN]
@@ -156,7 +132,7 @@ def checkpoint(instance, arguments):
 
 def restore(instance, arguments):
     slot = arguments[0]
-    if slot >= CHECKPOINT_COUNT:
+    if not has_checkpoint(slot):
         return [NOT_THERE]
     if instance.checkpoints[slot] is None:
         return [EMPTY_CHECKPOINT]
@@ -164,27 +140,10 @@ def restore(instance, arguments):
     return [instance.run.time]
 
 
-def clock(instance, arguments):
-    run = instance.run
-    if run is None:
-        return [NO_RUN]
-    return [run.time, run.executed, len(run.planned)]
-
-
-def station_counts(instance, arguments):
-    place = arguments[0]
-    if instance.run is None:
-        return [NO_RUN]
-    if not has_station(instance, place):
-        return [NOT_THERE]
-    state = instance.run.stations[place]
-    return [state.accepted, state.served, state.lost, len(state.serving), len(state.waiting), state.greatest]
-
-
 CREATE = 0
 
 # Each operation stands at the place of its number.
-OPERATIONS = (
+CHANGES = (
     create,
     set_station,
     set_service,
@@ -195,13 +154,13 @@ OPERATIONS = (
     run_until,
     checkpoint,
     restore,
-    clock,
-    station_counts,
 )
 
 
 def perform(instance, number, arguments):
     if number != CREATE and instance.network is None:
         return [NO_INSTANCE]
-    operation = OPERATIONS[number]
+    if number >= FIRST_LOOK:
+        return look(instance, number, arguments)
+    operation = CHANGES[number]
     return operation(instance, arguments)
